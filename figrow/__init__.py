@@ -1,0 +1,1 @@
+"""Figrow: very great numbers by rows of figures."""
