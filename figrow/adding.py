@@ -1,15 +1,18 @@
-"""Sums and differences of rows, and rows scaled and shifted."""
+"""Sums and differences of rows, and rows scaled and shifted.
+
+The functions plus, minus and moved look at nothing: they are for what was
+looked at before, as the way of halves would else look at its rows over and over.
+"""
 
 from figrow.errors import BelowNought
-from figrow.rows import figure_at, need_count, need_figure, need_row, order, trimmed
+from figrow.rows import need_count, need_figure, need_row, order, trimmed
 
 
 def added(base, one, other):
     """Return the row of the sum."""
     need_row(base, one)
     need_row(base, other)
-    places = range(max(len(one), len(other)))
-    return carried(base, [figure_at(one, place) + figure_at(other, place) for place in places])
+    return plus(base, one, other)
 
 
 def taken(base, one, other):
@@ -18,7 +21,7 @@ def taken(base, one, other):
     need_row(base, other)
     if order(one, other) < 0:
         raise BelowNought("the second row is greater than the first")
-    return carried(base, [one[place] - figure_at(other, place) for place in range(len(one))])
+    return minus(base, one, other)
 
 
 def scaled(base, row, figure):
@@ -32,6 +35,28 @@ def shifted(base, row, places):
     """Return the row with as many noughts at its beginning; nought stays nought."""
     need_row(base, row)
     need_count(places, 0)
+    return moved(row, places)
+
+
+def plus(base, one, other):
+    """Return the row of the sum of what surely are rows."""
+    longer, shorter = (one, other) if len(one) > len(other) else (other, one)
+    amounts = list(longer)
+    for place, figure in enumerate(shorter):
+        amounts[place] += figure
+    return carried(base, amounts)
+
+
+def minus(base, one, other):
+    """Return the row of the first less the second, which surely is not greater."""
+    amounts = list(one)
+    for place, figure in enumerate(other):
+        amounts[place] -= figure
+    return carried(base, amounts)
+
+
+def moved(row, places):
+    """Return the row with as many noughts at its beginning; nought stays nought."""
     # Nought is told apart first: the noughts for it might be too many to hold.
     if not row:
         return []

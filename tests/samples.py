@@ -87,6 +87,27 @@ def plain_number(base, row):
     return number
 
 
+def lists_within(thing):
+    """All lists of a list or a tuple of such, itself included."""
+    if not isinstance(thing, (list, tuple)):
+        return []
+    found = [thing] if isinstance(thing, list) else []
+    for each in thing:
+        found += lists_within(each)
+    return found
+
+
+def some_rows(base):
+    """Rows of all lengths around the edges of the way of halves, also with many noughts."""
+    most = base - 1
+    rows = [[]]
+    for many in [1, 2, 3, 4, 5, 6, 7, 8, 9, 13, 16, 17, 33]:
+        rows += [[most] * many, [1] * many, [0] * (many - 1) + [most]]
+        rows += [[1] + [0] * (many - 1) + [1], [most] * many + [0] * many + [1]]
+        rows += [[0] * many + [most] * many, [place * 7 // 3 % base for place in range(many)] + [most]]
+    return rows
+
+
 class Case(unittest.TestCase):
     """A test case with checks for refusals and for what is handed in and given back."""
 
@@ -103,21 +124,22 @@ class Case(unittest.TestCase):
                 self.fail(f"{function.__name__} refused nothing, {refusal.__name__} was due")
 
     def untouched(self, function, *handed):
-        """What was handed in stays as it was, also when the list that came back is changed."""
+        """What was handed in stays as it was, also when each list that came back is changed."""
         before = copy.deepcopy(handed)
         back = function(*handed)
         self.assertEqual(handed, before)
-        self.assertIs(type(back), list)
-        kept = list(back)
-        for thing in handed:
-            self.assertIsNot(back, thing)
-        back.append(1)
-        back[0] = 77
-        back.insert(0, 99)
+        kept = copy.deepcopy(back)
+        lists = lists_within(back)
+        self.assertTrue(lists)
+        for at, each in enumerate(lists):
+            for another in lists_within(list(handed)) + lists[:at]:
+                self.assertIsNot(each, another)
+        for each in lists:
+            each.append(1)
+            each[0] = 77
+            each.insert(0, 99)
         self.assertEqual(handed, before)
-        again = function(*handed)
-        self.assertIsNot(again, back)
-        self.assertEqual(again, kept)
+        self.assertEqual(function(*handed), kept)
 
     def true_row(self, base, row):
         """This is a row: held against the words of point 3."""

@@ -5,7 +5,7 @@ import inspect
 import pathlib
 import unittest
 
-from figrow import adding, errors, rows
+from figrow import adding, dividing, errors, halves, rows, texts
 
 PACKAGE = pathlib.Path(rows.__file__).parent
 
@@ -24,6 +24,21 @@ ARGUMENTS = {
         "taken": ["base", "one", "other"],
         "scaled": ["base", "row", "figure"],
         "shifted": ["base", "row", "places"],
+    },
+    halves: {
+        "slow": ["base", "one", "other"],
+        "product": ["base", "one", "other", "least"],
+        "effort": ["base", "one", "other", "least"],
+    },
+    dividing: {
+        "parted": ["base", "row", "figure"],
+        "divided": ["base", "one", "other"],
+        "ladder": ["base", "one", "other"],
+        "turned": ["base", "row", "other"],
+    },
+    texts: {
+        "written": ["base", "row"],
+        "read": ["base", "line"],
     },
 }
 
@@ -50,6 +65,10 @@ class Interface(unittest.TestCase):
         self.assertIs(type(rows.LEAST_BASE), int)
         self.assertIs(type(rows.MOST_BASE), int)
         self.assertEqual((rows.LEAST_BASE, rows.MOST_BASE), (2, 1000000))
+
+    def test_least_of_the_way_of_halves(self):
+        self.assertIs(type(halves.LEAST), int)
+        self.assertEqual(halves.LEAST, 3)
 
 
 class Package(unittest.TestCase):
